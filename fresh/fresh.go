@@ -1,0 +1,111 @@
+// Package fresh makes copies of the types of package api that share no memory with what they are made of.
+package fresh
+
+import (
+	"slices"
+
+	"soundservice/api"
+)
+
+// List returns a copy of a list, each element of which is copied.
+func List[T any](l []T, each func(T) T) []T {
+	var out []T
+	for _, x := range l {
+		out = append(out, each(x))
+	}
+	return out
+}
+
+// Set copies a set of integers.
+func Set(s api.IntSet) api.IntSet { return api.IntSet{Spans: slices.Clone(s.Spans)} }
+
+// Box copies a box.
+func Box(b api.Box) api.Box {
+	b.Rates = Set(b.Rates)
+	b.Maps = List(b.Maps, slices.Clone[[]int])
+	b.Sizes = Set(b.Sizes)
+	return b
+}
+
+// Boxes copies a list of boxes.
+func Boxes(l []api.Box) []api.Box { return List(l, Box) }
+
+// Format copies a format.
+func Format(f api.Format) api.Format {
+	f.Map = slices.Clone(f.Map)
+	return f
+}
+
+// Choice copies a choice.
+func Choice(c api.Choice) api.Choice {
+	c.Format = Format(c.Format)
+	return c
+}
+
+// Descriptor copies a descriptor.
+func Descriptor(d api.Descriptor) api.Descriptor {
+	d.Boxes = Boxes(d.Boxes)
+	return d
+}
+
+// Clock copies a clock.
+func Clock(c api.Clock) api.Clock { return api.Clock{Segments: slices.Clone(c.Segments)} }
+
+// Block copies a block.
+func Block(b api.Block) api.Block {
+	b.Data = slices.Clone(b.Data)
+	return b
+}
+
+// Matrix copies a matrix.
+func Matrix(m api.Matrix) api.Matrix {
+	m.Coef = slices.Clone(m.Coef)
+	return m
+}
+
+// Resampler copies a resampler.
+func Resampler(r api.Resampler) api.Resampler {
+	r.Rest = slices.Clone(r.Rest)
+	return r
+}
+
+// Converter copies a converter.
+func Converter(c api.Converter) api.Converter {
+	c.From, c.To = Format(c.From), Format(c.To)
+	c.Matrix = Matrix(c.Matrix)
+	c.Resample = Resampler(c.Resample)
+	return c
+}
+
+// Ring copies a ring.
+func Ring(r api.Ring) api.Ring {
+	r.Data = slices.Clone(r.Data)
+	return r
+}
+
+// Bridge copies a bridge.
+func Bridge(b api.Bridge) api.Bridge {
+	b.Resample = Resampler(b.Resample)
+	return b
+}
+
+// Stream copies a stream.
+func Stream(s api.Stream) api.Stream {
+	s.Resample = Resampler(s.Resample)
+	s.Ring = Ring(s.Ring)
+	return s
+}
+
+// Device copies a device.
+func Device(d api.Device) api.Device {
+	d.Descriptor = Descriptor(d.Descriptor)
+	d.Choice = Choice(d.Choice)
+	d.Clock = Clock(d.Clock)
+	d.Bridge = Bridge(d.Bridge)
+	return d
+}
+
+// Graph copies a graph.
+func Graph(g api.Graph) api.Graph {
+	return api.Graph{Nodes: slices.Clone(g.Nodes), Links: slices.Clone(g.Links)}
+}
