@@ -109,3 +109,24 @@ func Device(d api.Device) api.Device {
 func Graph(g api.Graph) api.Graph {
 	return api.Graph{Nodes: slices.Clone(g.Nodes), Links: slices.Clone(g.Links)}
 }
+
+// Voice copies a voice.
+func Voice(v api.Voice) api.Voice {
+	v.Map = slices.Clone(v.Map)
+	v.Stream = Stream(v.Stream)
+	v.Matrix = Matrix(v.Matrix)
+	return v
+}
+
+// Outlet copies an outlet.
+func Outlet(o api.Outlet) api.Outlet {
+	o.Device = Device(o.Device)
+	return o
+}
+
+// Engine copies an engine.
+func Engine(e api.Engine) api.Engine {
+	e.Outlets = List(e.Outlets, Outlet)
+	e.Voices = List(e.Voices, Voice)
+	return e
+}
