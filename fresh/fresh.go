@@ -130,3 +130,12 @@ func Engine(e api.Engine) api.Engine {
 	e.Voices = List(e.Voices, Voice)
 	return e
 }
+
+// Choose copies a choice that is remembered.
+func Choose(c api.Choose) api.Choose {
+	c.Set = slices.Clone(c.Set)
+	return c
+}
+
+// Memory copies the choices that are remembered.
+func Memory(m api.Memory) api.Memory { return api.Memory{Choices: List(m.Choices, Choose)} }
