@@ -139,3 +139,15 @@ func Choose(c api.Choose) api.Choose {
 
 // Memory copies the choices that are remembered.
 func Memory(m api.Memory) api.Memory { return api.Memory{Choices: List(m.Choices, Choose)} }
+
+// Recorder copies a recorder.
+func Recorder(r api.Recorder) api.Recorder {
+	r.Last = slices.Clone(r.Last)
+	return r
+}
+
+// Watch copies a watch.
+func Watch(w api.Watch) api.Watch {
+	w.Transfers = slices.Clone(w.Transfers)
+	return w
+}
