@@ -151,3 +151,10 @@ func Watch(w api.Watch) api.Watch {
 	w.Transfers = slices.Clone(w.Transfers)
 	return w
 }
+
+// Session copies a session.
+func Session(s api.Session) api.Session {
+	s.Streams = slices.Clone(s.Streams)
+	s.Memory = Memory(s.Memory)
+	return s
+}
