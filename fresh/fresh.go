@@ -158,3 +158,39 @@ func Session(s api.Session) api.Session {
 	s.Memory = Memory(s.Memory)
 	return s
 }
+
+// Rule copies a rule.
+func Rule(r api.Rule) api.Rule {
+	r.Cond = slices.Clone(r.Cond)
+	return r
+}
+
+// Known copies a device that is plugged.
+func Known(k api.Known) api.Known {
+	return api.Known{Descriptor: Descriptor(k.Descriptor), Choice: Choice(k.Choice), Clock: Clock(k.Clock)}
+}
+
+// Book copies a book.
+func Book(b api.Book) api.Book {
+	b.Devices, b.Seats = slices.Clone(b.Devices), slices.Clone(b.Seats)
+	return b
+}
+
+// Service copies a service.
+func Service(s api.Service) api.Service {
+	return api.Service{
+		Setup:    s.Setup,
+		Engine:   Engine(s.Engine),
+		Book:     Book(s.Book),
+		Session:  Session(s.Session),
+		Rules:    List(s.Rules, Rule),
+		Plugs:    api.Plugs{Settle: s.Plugs.Settle, Seen: slices.Clone(s.Plugs.Seen)},
+		Known:    List(s.Known, Known),
+		Moves:    slices.Clone(s.Moves),
+		Faders:   slices.Clone(s.Faders),
+		Recorder: Recorder(s.Recorder),
+		Facts:    slices.Clone(s.Facts),
+		Watches:  List(s.Watches, Watch),
+		Journal:  slices.Clone(s.Journal),
+	}
+}
