@@ -5,6 +5,7 @@ import (
 	"strings"
 
 	"soundservice/api"
+	"soundservice/lines"
 	"soundservice/words"
 )
 
@@ -131,31 +132,13 @@ func readLine(line string) (r api.Rule, e api.Errno) {
 	return r, api.OK
 }
 
-// lines goes through the lines of a text with their numbers.
-func lines(s string) func(yield func(int, string) bool) {
-	return func(yield func(int, string) bool) {
-		for number := 0; s != ""; number++ {
-			line, rest, _ := strings.Cut(s, "\n")
-			if !yield(number, line) {
-				return
-			}
-			s = rest
-		}
-	}
-}
-
 // Parse returns the rules of a text and the number of its lines.
 func Parse(s string) ([]api.Rule, int, api.Errno) {
 	if len(s) > api.MaxText {
 		return nil, 0, api.ErrLimit
 	}
 	var l []api.Rule
-	count := 0
-	for number, line := range lines(s) {
-		count = number + 1
-		if line == "" || line[0] == '#' {
-			continue
-		}
+	for number, line := range lines.Of(s) {
 		r, e := readLine(line)
 		if e == api.OK && len(l) == api.MaxRules {
 			e = api.ErrLimit
@@ -165,7 +148,7 @@ func Parse(s string) ([]api.Rule, int, api.Errno) {
 		}
 		l = append(l, r)
 	}
-	return l, count, api.OK
+	return l, lines.Count(s), api.OK
 }
 
 // phrase is the words of a condition, and the kind of the term that joins it, 0 if it is not joined.
