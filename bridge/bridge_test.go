@@ -52,6 +52,9 @@ func TestValidNewFill(t *testing.T) {
 	if !reflect.DeepEqual(b, api.Bridge{Capacity: 9, Control: loop, Resample: r}) || !Valid(b) || Fill(b) != 4 {
 		t.Error(b)
 	}
+	if least := begun(t, 1, rat(1, 1), 1, 1); !Valid(least) || Fill(least) != 1 {
+		t.Error("the least bridge")
+	}
 	if full := begun(t, 1, rat(1, 1), 65536, 65536); !Valid(full) || Fill(full) != 65536 {
 		t.Error("a full bridge")
 	}

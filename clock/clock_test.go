@@ -233,6 +233,10 @@ func TestKeepsEdges(t *testing.T) {
 	if Keeps(fast, rat(1, 1), 16, 0, 4096, 0, 4096*4096) || !Keeps(fast, rat(1, 1), 16, 0, 4096, 1, 4096*4096) || !Keeps(fast, rat(1, 1), 16, 0, maxInt, 0, api.MaxTime) {
 		t.Error("the number of times")
 	}
+	bend := made(0, 1, 1, 100, 2, 1)
+	if !Keeps(bend, rat(1, 1), 0, 0, 50, 0, 149) || Keeps(bend, rat(1, 1), 0, 0, 50, 0, 150) || Keeps(bend, rat(1, 1), 0, 49, 50, 0, 150) || !Keeps(bend, rat(1, 1), 0, 50, 50, 0, 150) {
+		t.Error("the last time counts")
+	}
 	one := made(0, 1, 1)
 	if !Keeps(one, rat(1, 1), 0, 0, 1, 0, 0) || !Keeps(one, rat(1, 1), 4096, 65536, 1<<40, 0, 1<<40) {
 		t.Error("the edges of ranges")
@@ -245,7 +249,7 @@ func TestKeepsEdges(t *testing.T) {
 	if Keeps(one, rat(2, 2), 0, 0, 1, 0, 0) || Keeps(one, rat(1, 1), -1, 0, 1, 0, 0) || Keeps(one, rat(1, 1), 4097, 0, 1, 0, 0) || Keeps(one, rat(1, 1), 0, -1, 1, 0, 0) || Keeps(one, rat(1, 1), 0, 65537, 1, 0, 0) {
 		t.Error("ranges of what is declared")
 	}
-	for _, x := range [][3]int64{{0, 0, 0}, {-1, 0, 0}, {minInt, 0, 5}, {1, -1, 0}, {1, minInt, maxInt}, {1, 0, api.MaxTime + 1}, {1, 5, 4}, {maxInt, 5, 4}} {
+	for _, x := range [][3]int64{{0, 0, 0}, {-1, 0, 0}, {minInt, 0, 5}, {1, -1, 0}, {1, minInt, maxInt}, {1, 0, api.MaxTime + 1}, {maxInt, 0, api.MaxTime + 1}, {maxInt, -1, 0}, {1, 5, 4}, {maxInt, 5, 4}} {
 		if Keeps(one, rat(1, 1), 0, 0, x[0], x[1], x[2]) {
 			t.Error(x)
 		}

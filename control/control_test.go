@@ -110,7 +110,7 @@ func TestDeclaredEdges(t *testing.T) {
 		{one, rat(4096, 1), 31, 0, same(3, 4097, 4095), false}, {one, rat(4096, 1), 32, 0, same(3, 4097, 4095), true}, // each differs by 1, both by 2
 		{one, rat(64, 1), 0, 5, []api.Transfer{{Pull: 69, Push: 69}, {Pull: 64, Push: 64}, {Pull: 59, Push: 59}}, true},
 		{one, rat(64, 1), 0, 5, []api.Transfer{{Pull: 67, Push: 67}, {Pull: 64, Push: 64}, {Pull: 67, Push: 67}}, false},
-		{rat(2, 2), rat(64, 1), 0, 9, nil, false}, {rat(768001, 1), rat(64, 1), 0, 9, nil, false}, {rat(1, 768001), rat(64, 1), 0, 9, nil, false}, {rat(768000, 1), rat(64, 1), 0, 9, nil, true},
+		{rat(2, 2), rat(64, 1), 0, 9, nil, false}, {rat(768001, 1), rat(64, 1), 0, 9, nil, false}, {rat(1, 768001), rat(64, 1), 0, 9, nil, false}, {rat(768000, 1), rat(64, 1), 0, 9, nil, true}, {rat(1, 768000), rat(64, 1), 0, 9, nil, true}, {one, one, 0, 9, same(3, 0, 0), true}, {one, one, 0, 0, same(1, 0, 0), false},
 		{one, rat(1, 64), 0, 0, nil, true}, {one, rat(1, 65), 0, 0, nil, false}, {one, rat(524288, 1), 0, 0, nil, true}, {one, rat(524289, 1), 0, 0, nil, false}, {one, rat(64, 768001), 0, 0, nil, false}, {one, rat(767999, 768000), 0, 0, nil, true}, {one, rat(768002, 768001), 0, 0, nil, false}, {one, api.Ratio{}, 0, 0, nil, false},
 		{one, one, -1, 0, nil, false}, {one, one, 4097, 0, nil, false}, {one, one, 4096, 65536, nil, true}, {one, one, 0, 65537, nil, false}, {one, one, 0, -1, nil, false},
 		{one, one, 0, 65536, same(1, -1, 0), false}, {one, one, 0, 65536, same(1, 0, -1), false}, {one, one, 0, 65536, same(1, 65537, 0), false}, {one, one, 0, 65536, same(1, 0, 65537), false}, {one, one, 4096, 65536, same(1, 65536, 65536), true},
@@ -192,7 +192,7 @@ func TestPlan(t *testing.T) {
 		{rat(64, 1), 3856, 0, 0, 1, api.ErrRange}, {rat(524288, 1), 4096, 65536, 65536, 1, api.ErrRange}, {rat(64, 1), 3855, 0, 0, 4096, api.OK},
 		{rat(64, 1), 0, 65536, 0, 1, api.ErrLimit}, {rat(64, 1), 0, 0, 65536, 1, api.ErrLimit}, {rat(524288, 1), 0, 0, 0, 1, api.ErrLimit}, {rat(65536, 1), 0, 0, 0, 1, api.ErrLimit}, {rat(524288, 1), 3500, 30000, 0, 1, api.ErrLimit},
 		// without drift: Target is 64 + 3 + dead + 2, the capacity dead + 2 more.
-		{rat(64, 1), 0, 0, 32731, 1, api.OK}, {rat(64, 1), 0, 0, 32733, 1, api.ErrLimit},
+		{rat(65, 1), 0, 0, 32732, 1, api.OK}, {rat(65, 1), 0, 0, 32733, 1, api.ErrLimit}, {rat(64, 1), 0, 0, 32731, 1, api.OK}, {rat(64, 1), 0, 0, 32733, 1, api.ErrLimit},
 	} {
 		c, capacity, e := Plan(k.period, k.drift, k.jitter, k.dead, k.gain)
 		if e != k.e || e != api.OK && (c != (api.Control{}) || capacity != 0) || e == api.OK && (capacity > api.MaxCapacity || !Valid(c)) {

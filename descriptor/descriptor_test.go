@@ -51,6 +51,8 @@ func TestValid(t *testing.T) {
 	for i, d := range []api.Descriptor{
 		example(),
 		changed(func(d *api.Descriptor) { d.ID = 0 }),
+		changed(func(d *api.Descriptor) { d.Domain, d.Latency, d.Drift, d.Jitter = 0, 0, 0, 0 }),
+		changed(func(d *api.Descriptor) { d.Boxes = d.Boxes[:1] }),
 		changed(func(d *api.Descriptor) { d.Name = strings.Repeat("n", api.MaxName) }),
 		changed(func(d *api.Descriptor) {
 			d.Direction, d.Domain, d.Latency, d.Drift, d.Jitter = api.Playback, 65535, 1<<20, api.MaxAdjust/2, 4096

@@ -153,7 +153,7 @@ func TestOpenErrors(t *testing.T) {
 		{good, choose(1000, 1, 2), clk, 192000, 64, api.ErrMismatch}, {good, choose(2999, 1, 2), clk, 192000, 64, api.ErrMismatch}, {good, choose(3000, 1, 2), clk, 192000, 64, api.OK},
 		{good, choose(512001, 1, 2), clk, 8000, 64, api.ErrMismatch}, {good, choose(512000, 1, 2), clk, 8000, 64, api.OK},
 		{wild, choose(3000, 1, 2), clk, 192000, 64, api.ErrInvalid}, {wild, choose(12000, 1, 2), clk, 192000, 64, api.ErrInvalid}, {wild, choose(48000, 1, 2), clk, 192000, 64, api.ErrLimit}, {wild, choose(48000, 1, 2), clk, 48000, 64, api.OK},
-		{loose, choose(48000, 1, 2), clk, 48000, 8192, api.OK},
+		{loose, choose(48000, 1, 2), clk, 48000, 8192, api.OK}, {good, choose(48000, 1, 2), clk, 8000, 16, api.OK}, {good, choose(48000, 1, 2), clk, 192000, 16, api.OK},
 	} {
 		if d, e := Open(c.d, c.c, c.clk, c.rate, c.period); e != c.e || e != api.OK && !isZero(d) || e == api.OK && !Valid(d) {
 			t.Error(i, e, c.e)
@@ -166,8 +166,13 @@ func TestStart(t *testing.T) {
 	d := opened(t, api.Playback, 44100, rat(1, 1))
 	want := d
 	want.Running, want.Since = true, 640
-	if x, e := Start(d, 640); e != api.OK || !reflect.DeepEqual(x, want) {
+	x, e := Start(d, 640)
+	if e != api.OK || !reflect.DeepEqual(x, want) {
 		t.Error(x, e)
+	}
+	x.Bridge.Resample.Rest[0], x.Clock.Segments[0].From, x.Descriptor.Boxes[0].Kinds = 9, 9, 9
+	if d.Bridge.Resample.Rest[0] != 0 || d.Clock.Segments[0].From != 0 || d.Descriptor.Boxes[0].Kinds != 254 {
+		t.Error("shared memory")
 	}
 	for _, c := range []struct {
 		d api.Device
@@ -281,6 +286,10 @@ func TestRecord(t *testing.T) {
 	if silence, _ := sample.Silence(2, 64); e != api.OK || !reflect.DeepEqual(b, silence) || l+m != 0 || !reflect.DeepEqual(x, still) {
 		t.Error(b, l, m, e)
 	}
+	x.Bridge.Resample.Rest[0], x.Clock.Segments[0].From, x.Descriptor.Boxes[0].Kinds = 9, 9, 9
+	if still.Bridge.Resample.Rest[0] != 0 || still.Clock.Segments[0].From != 0 || still.Descriptor.Boxes[0].Kinds != 254 {
+		t.Error("shared memory")
+	}
 	for i, c := range []struct {
 		d        api.Device
 		b        api.Block
@@ -309,6 +318,21 @@ func TestLatency(t *testing.T) {
 		}
 		if n, e := Latency(d); e != api.OK || n != (q+1)*64+c.air {
 			t.Error(c, n, e, q)
+		}
+	}
+	for _, drift := range []int{0, 7, 1000, 2048} { // all capacities, with all rests
+		play, record := opened(t, api.Playback, 44100, rat(1, 1)), opened(t, api.Capture, 44100, rat(1, 1))
+		play.Descriptor.Drift, record.Descriptor.Drift = drift, drift
+		for capacity := 2000; capacity < 2200; capacity++ {
+			play.Bridge.Capacity, record.Bridge.Capacity = capacity, capacity
+			inputs := 64 * 147 // times 160
+			q := ((capacity+3)*65536*160 + inputs*(65536-drift) - 1) / (inputs * (65536 - drift))
+			if n, e := Latency(record); e != api.OK || n != (q+1)*64+109 {
+				t.Error(drift, capacity, n, e)
+			}
+			if n, e := Latency(play); e != api.OK || n != ((capacity+63)/64+1)*64+109 {
+				t.Error(drift, capacity, n, e)
+			}
 		}
 	}
 	d := opened(t, api.Playback, 48000, rat(1, 1))

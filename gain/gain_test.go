@@ -86,6 +86,12 @@ func TestAt(t *testing.T) {
 			t.Error(i, At(down, i))
 		}
 	}
+	even := api.Ramp{From: 10, To: 0, Frames: 5}
+	for i, want := range []int{10, 8, 6, 4, 2, 0} {
+		if At(even, i) != want {
+			t.Error(i, At(even, i))
+		}
+	}
 	if At(api.Ramp{From: 5, To: 9}, 0) != 9 || At(up, maxInt) != api.Unit || At(down, maxInt) != 0 {
 		t.Error("the end of a ramp")
 	}
@@ -126,6 +132,9 @@ func TestRun(t *testing.T) {
 func TestRetarget(t *testing.T) {
 	r := api.Ramp{From: 0, To: api.Unit, Frames: 4, At: 2}
 	if x, e := Retarget(r, 7, 9); e != api.OK || x != (api.Ramp{From: 32768, To: 7, Frames: 9}) {
+		t.Error(x, e)
+	}
+	if x, e := Retarget(r, 0, 0); e != api.OK || x != (api.Ramp{From: 32768}) {
 		t.Error(x, e)
 	}
 	if x, e := Retarget(r, api.MaxGain, api.MaxFrames*64); e != api.OK || !Valid(x) {

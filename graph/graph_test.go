@@ -58,6 +58,10 @@ func invalid() []api.Graph {
 		changed(func(g *api.Graph) { g.Links[3].To = 4 }),                                     // two links to a sink
 		changed(func(g *api.Graph) { g.Links = slices.Insert(g.Links, 5, link(5, 0, 7, 0)) }), // the same one
 		changed(func(g *api.Graph) { g.Links = slices.Insert(g.Links, 4, link(5, 0, 3, 0)) }), // two links from a mixer
+		{Nodes: []api.Node{node(2, api.NodeEffect, 1, 1), node(1, api.NodeEffect, 1, 1)}},
+		{Nodes: []api.Node{node(2, api.NodeEffect, 1, 1), node(2, api.NodeEffect, 1, 1)}},
+		changed(func(g *api.Graph) { g.Links = slices.Insert(g.Links, 1, link(1, 0, 5, 0)) }),
+		changed(func(g *api.Graph) { g.Links[0], g.Links[1] = g.Links[1], g.Links[0] }),
 		{Nodes: []api.Node{node(1, api.NodeEffect, 1, 1)}, Links: []api.Link{link(1, 0, 1, 0)}},
 		{Nodes: []api.Node{node(1, api.NodeEffect, 1, 1), node(2, api.NodeEffect, 1, 1)}, Links: []api.Link{link(1, 0, 2, 0), link(2, 0, 1, 0)}},
 	}
@@ -69,7 +73,7 @@ func invalid() []api.Graph {
 
 // P22.1
 func TestValid(t *testing.T) {
-	for i, g := range []api.Graph{{}, example(), many(64), {Nodes: []api.Node{node(1<<31-1, api.NodeSplit, 1, 8)}}, changed(func(g *api.Graph) { g.Links = nil }), changed(func(g *api.Graph) { g.Links = slices.Insert(g.Links, 1, link(1, 0, 5, 1)) })} {
+	for i, g := range []api.Graph{{}, example(), many(64), {Nodes: []api.Node{node(1, api.NodeMixer, 1, 1), node(2, api.NodeSplit, 1, 1), node(1<<31-1, api.NodeSplit, 1, 8)}}, changed(func(g *api.Graph) { g.Links = nil }), changed(func(g *api.Graph) { g.Links = slices.Insert(g.Links, 1, link(1, 0, 5, 1)) })} {
 		if !Valid(g) {
 			t.Error(i)
 		}
@@ -159,7 +163,10 @@ func TestAddAndRemove(t *testing.T) {
 	if e != api.OK || f != api.OK || !slices.Equal(x.Nodes, append(before.Nodes, node(9, api.NodeSource, 0, 1))) || !slices.Equal(x.Links, g.Links) || y.Nodes[0].ID != 1 || !Valid(y) {
 		t.Error(x, y, e, f)
 	}
-	if !reflect.DeepEqual(g, before) {
+	roomy := api.Graph{Nodes: append(make([]api.Node, 0, 9), node(5, api.NodeMixer, 1, 1), node(6, api.NodeMixer, 1, 1)), Links: make([]api.Link, 0, 9)}
+	Add(roomy, node(1, api.NodeSource, 0, 1))
+	linked, _ := Connect(roomy, link(5, 0, 6, 0))
+	if !reflect.DeepEqual(g, before) || roomy.Nodes[0].ID != 5 || roomy.Links[:1][0] != (api.Link{}) || len(linked.Links) != 1 {
 		t.Error("the argument was changed")
 	}
 	for _, n := range wrongNodes {

@@ -11,7 +11,7 @@ const maxInt, minInt = 1<<63 - 1, -1 << 63
 // P26.1
 func TestFrames(t *testing.T) {
 	for _, c := range []struct{ n, from, to, want int }{
-		{480, 48000, 96000, 960}, {1, 44100, 48000, 2}, {0, 44100, 48000, 0}, {147, 44100, 48000, 160}, {148, 44100, 48000, 162}, {1, 768000, 1000, 1}, {api.MaxTime, 1000, 768000, 768 * api.MaxTime}, {api.MaxTime, 768000, 768000, api.MaxTime},
+		{480, 48000, 96000, 960}, {1, 44100, 48000, 2}, {0, 44100, 48000, 0}, {147, 44100, 48000, 160}, {148, 44100, 48000, 162}, {1, 768000, 1000, 1}, {1, 1000, 1001, 2}, {1000, 1000, 1001, 1001}, {api.MaxTime, 1000, 768000, 768 * api.MaxTime}, {api.MaxTime, 768000, 768000, api.MaxTime},
 		{-1, 48000, 48000, 0}, {api.MaxTime + 1, 48000, 48000, 0}, {5, 999, 48000, 0}, {5, 768001, 48000, 0}, {5, 48000, 999, 0}, {5, 48000, 768001, 0}, {maxInt, maxInt, maxInt, 0}, {minInt, minInt, minInt, 0},
 	} {
 		if n := Frames(c.n, c.from, c.to); n != c.want {
@@ -38,6 +38,10 @@ func TestOf(t *testing.T) {
 		if l, e := Of(j); e != api.ErrRange || l != (api.Latency{}) {
 			t.Error(i, l, e)
 		}
+	}
+	least := api.Journey{Master: 1000, Rate: 1000, DeviceRate: 768000, Period: 16}
+	if l, e := Of(least); e != api.OK || l != (api.Latency{Convert: 2, Quantum: 16}) {
+		t.Error(l, e)
 	}
 	edge := api.Journey{Master: 768000, Rate: 1000, DeviceRate: 1000, Ring: api.MaxTime, Period: 8192, Target: api.MaxTime, Latency: api.MaxTime}
 	if l, e := Of(edge); e != api.OK || l.Ring != 768*api.MaxTime || l.Device != 768*api.MaxTime || l.Bridge != api.MaxTime {

@@ -100,7 +100,7 @@ func TestRunErrors(t *testing.T) {
 	}{
 		{api.Limit{}, 0, nil, api.ErrInvalid},
 		{good, 0, nil, api.ErrRange}, {good, 9, nil, api.ErrRange}, {good, -1, nil, api.ErrRange}, {good, 2, make([]int64, 3), api.ErrRange},
-		{good, 1, make([]int64, api.MaxFrames), api.OK}, {good, 1, make([]int64, api.MaxFrames+1), api.ErrRange},
+		{good, 1, make([]int64, api.MaxFrames), api.OK}, {good, 8, make([]int64, 8*api.MaxFrames), api.OK}, {good, 8, make([]int64, 8*api.MaxFrames+8), api.ErrRange}, {good, 1, make([]int64, api.MaxFrames+1), api.ErrRange},
 		{good, 1, []int64{1<<40 + 1}, api.ErrRange}, {good, 1, []int64{-1<<40 - 1}, api.ErrRange}, {good, 1, []int64{-1 << 63}, api.ErrRange}, {good, 1, []int64{1<<63 - 1}, api.ErrRange},
 	} {
 		if b, l, e := Run(c.l, c.channels, c.sums); e != c.e || e != api.OK && (b.Channels != 0 || b.Data != nil || l != (api.Limit{})) {

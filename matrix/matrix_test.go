@@ -127,7 +127,7 @@ func TestMul(t *testing.T) {
 
 // P7.4
 func TestDefault(t *testing.T) {
-	const o, s = api.One, side
+	const o, s = 32768, 23170
 	for _, c := range []struct {
 		from, to, coef []int
 	}{

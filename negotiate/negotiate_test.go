@@ -173,6 +173,15 @@ func TestForwardLimits(t *testing.T) {
 	if _, _, e := Forward(long); e != api.ErrLimit { // 15 reached boxes, 8 * 15 combinations
 		t.Error(e)
 	}
+	for n, want := range map[int]api.Errno{4: api.OK, 5: api.ErrLimit} { // 13 reached boxes: 52 and 65 combinations
+		x := []api.Port{port(0, halves[:7]...), port(api.DimRate, pieces[:7]...), port(0, halves[:n]...)}
+		if _, _, e := Forward(x); e != want {
+			t.Error(n, e)
+		}
+	}
+	if r, _, e := Forward([]api.Port{port(0, halves...), port(api.DimRate, halves...), port(0, halves...)}); e != api.OK || len(r[2]) != 8 { // 64
+		t.Error(e)
+	}
 	long[2].Boxes = long[2].Boxes[:4]
 	if _, _, e := Forward(long); e != api.OK { // 4 * 15
 		t.Error(e)

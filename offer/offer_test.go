@@ -109,6 +109,10 @@ func TestSingle(t *testing.T) {
 	if l := Single(c); !sameBoxes(l, []api.Box{box(1<<api.S24BE, set(768000, 768000), set(1, 1), stereo)}) {
 		t.Error(l)
 	}
+	last := choice(api.S32BE, 1000, mono, 1<<16)
+	if l := Single(last); !sameBoxes(l, []api.Box{box(128, set(1000, 1000), set(1<<16, 1<<16), mono)}) || !Has(l, last) || Has(l, choice(api.U8, 1000, mono, 1<<16)) {
+		t.Error(l)
+	}
 	for _, c := range []api.Choice{{}, choice(0, 48000, mono, 1), choice(8, 48000, mono, 1), choice(-1<<63, 48000, mono, 1), choice(1, 999, mono, 1), choice(1, -5, mono, 1), choice(1, 768001, mono, 1), choice(1, 48000, nil, 1), choice(1, 48000, mono, 0), choice(1, 48000, mono, 1<<16+1)} {
 		if l := Single(c); len(l) != 0 {
 			t.Error(c, l)
@@ -384,6 +388,12 @@ func TestBest(t *testing.T) {
 	} {
 		if got, ok := Best(l, c.want); !ok || !sameChoice(got, c.got) {
 			t.Error(c, got, ok)
+		}
+	}
+	for kind := api.U8; kind <= api.S32BE; kind++ {
+		one := []api.Box{box(1<<kind, set(44100, 44100), set(64, 64), mono)}
+		if got, ok := Best(one, choice(3, 1, mono, 1)); !ok || got.Format.Kind != kind {
+			t.Error(kind, got, ok)
 		}
 	}
 	for _, none := range [][]api.Box{nil, {bad[0]}, {good[0], bad[3]}} {

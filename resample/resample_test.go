@@ -267,6 +267,14 @@ func TestFinish(t *testing.T) {
 			}
 		}
 	}
+	wide := api.Resampler{Channels: 2, Phase: api.Phase{Base: rat(1, 2)}, Rest: []int32{0, 100, 10, 50}}
+	if b, after, e := Finish(wide, 9); e != api.OK || !slices.Equal(b.Data, []int32{0, 100, 5, 75, 10, 50, 10, 50}) || len(after.Rest) != 0 {
+		t.Error(b, after, e)
+	}
+	late := api.Resampler{Channels: 1, Phase: api.Phase{Base: rat(1, 1), Frac: 65535}, Rest: []int32{0, 65536, 0}}
+	if b, _, e := Finish(late, 9); e != api.OK || !slices.Equal(b.Data, []int32{65535, 1, 0}) {
+		t.Error(b, e)
+	}
 	if b, after, e := Finish(begun(t, 3, rat(1, 1)), 5); e != api.OK || b.Channels != 3 || len(b.Data) != 0 || len(after.Rest) != 0 {
 		t.Error(b, after, e)
 	}

@@ -83,6 +83,16 @@ func TestValidAndNew(t *testing.T) {
 	if !reflect.DeepEqual(s, api.Stream{Direction: api.Capture, State: api.Idle, Capacity: 1, Resample: r, Ring: b}) || !Valid(s) {
 		t.Error(s)
 	}
+	for _, direction := range []int{api.Playback, api.Capture} {
+		full := holding(t, direction, api.Ready, make([]int32, 10)...)
+		if !Valid(full) || Room(full) != 0 {
+			t.Error("a full stream")
+		}
+	}
+	over := holding(t, api.Playback, api.Ready, make([]int32, 11)...)
+	if Valid(over) {
+		t.Error("too much waits")
+	}
 	for i, s := range invalid(t) {
 		if Valid(s) {
 			t.Error(i, s)
@@ -102,6 +112,7 @@ func TestValidAndNew(t *testing.T) {
 // P20.2
 func TestWaitingRoomOwes(t *testing.T) {
 	play, record := holding(t, api.Playback, api.Running, 1, 2, 3, 4, 5), holding(t, api.Capture, api.Running, 1, 2, 3)
+	record.Ring.Written, record.Ring.Read = 103, 100
 	if Waiting(play) != 5 || Room(play) != 5 || Waiting(record) != 3 || Room(record) != 7 {
 		t.Error(Waiting(play), Room(play), Waiting(record), Room(record))
 	}
@@ -139,6 +150,9 @@ func TestWrite(t *testing.T) {
 	x, e := Write(s, mono(1, 2))
 	y, f := Write(s, mono(3, 4))
 	if e != api.OK || f != api.OK || x.State != api.Ready || x.Written != 2 || !slices.Equal(x.Resample.Rest, []int32{1, 2}) || !slices.Equal(y.Resample.Rest, []int32{3, 4}) {
+		t.Error(x, e)
+	}
+	if x, e := Write(s, mono(7)); e != api.OK || x.State != api.Ready || x.Written != 1 {
 		t.Error(x, e)
 	}
 	if x, e := Write(s, mono()); e != api.OK || x.State != api.Idle || x.Written != 0 {
@@ -288,7 +302,7 @@ func TestTakeRunning(t *testing.T) {
 func TestTakeOtherStates(t *testing.T) {
 	s := holding(t, api.Playback, api.Draining, 10, 20, 30)
 	b, missing, x, e := Take(s, 2)
-	if e != api.OK || missing != 0 || !slices.Equal(b.Data, []int32{10, 20}) || x.State != api.Draining || x.Played != 2 || x.Missed != 0 {
+	if e != api.OK || missing != 0 || !slices.Equal(b.Data, []int32{10, 20}) || x.State != api.Draining || x.Played != 2 || x.Missed != 0 || !slices.Equal(x.Resample.Rest, []int32{30}) || x.Resample.Phase.Pos != 2 {
 		t.Error(b, missing, x, e)
 	}
 	b, missing, x, e = Take(s, 3)

@@ -125,6 +125,8 @@ func TestGetText(t *testing.T) {
 		{"ab", 3, "", 0, api.ErrRange},
 		{"ab", -1, "", 0, api.ErrRange},
 		{"\x03ab", 0, "", 0, api.ErrShort},
+		{"xy\x03abc", 2, "abc", 6, api.OK},
+		{"xy\x03ab", 2, "", 0, api.ErrShort},
 		{"\x41ab", 0, "", 0, api.ErrLimit},
 		{"\xff" + strings.Repeat("q", 300), 0, "", 0, api.ErrLimit},
 	} {

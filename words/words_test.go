@@ -154,12 +154,12 @@ func TestFormat(t *testing.T) {
 
 // P2.4
 func TestName(t *testing.T) {
-	for _, s := range []string{"a", "Z", "a0-._Z", strings.Repeat("n", api.MaxName)} {
+	for _, s := range []string{"a", "z", "A", "Z", "a0-._Z", "xazAZ09", strings.Repeat("n", api.MaxName)} {
 		if !Name(s) {
 			t.Error(s)
 		}
 	}
-	for _, s := range []string{"", "0a", "-a", ".a", "_a", "a b", "a\x00", "\xc3\xa4", "a/", strings.Repeat("n", api.MaxName+1)} {
+	for _, s := range []string{"", "0a", "-a", ".a", "_a", "a b", "a\x00", "\xc3\xa4", "a/", "a:", "a@", "a[", "a`", "a{", "@", "[", "`", "{", strings.Repeat("n", api.MaxName+1)} {
 		if Name(s) {
 			t.Error(s)
 		}
