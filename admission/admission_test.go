@@ -123,6 +123,15 @@ func TestHostAndDrop(t *testing.T) {
 	}); e != api.OK || !reflect.DeepEqual(x, want) {
 		t.Error(x, e)
 	}
+	roomy := example()
+	roomy.Devices, roomy.Seats = append(make([]api.Hosted, 0, 9), roomy.Devices...), append(make([]api.Seat, 0, 9), roomy.Seats...)
+	Host(roomy, api.Hosted{ID: 1, Channels: 1})
+	if x, _, e := Admit(roomy, api.Seat{ID: 1, Device: 5, Channels: 1}, 0); e != api.OK || x.Seats[0].Latency != 0 {
+		t.Error(e)
+	}
+	if !reflect.DeepEqual(roomy, example()) {
+		t.Error("the argument was changed")
+	}
 	eight := book(1, api.MaxCost)
 	for id := range uint64(8) {
 		if eight, e = Host(eight, api.Hosted{ID: 1<<64 - 1 - id, Channels: 8}); e != api.OK {

@@ -115,6 +115,20 @@ func TestValidAndNew(t *testing.T) {
 	if !Valid(late) {
 		t.Error("the last quantum")
 	}
+	first := must(Open(must(Host(must(New(48000, period)), opened(1, api.Playback, steady(1, 1), mono), limit())), 1, api.Playback, mono, 48000, 10, 0))
+	twin := fresh.Engine(first)
+	twin.Voices = nil
+	twin.Outlets = append(twin.Outlets, fresh.Outlet(twin.Outlets[0]))
+	if !Valid(first) || Valid(twin) {
+		t.Error("the IDs 1, and one ID twice")
+	}
+	twin.Outlets[0].Device.Descriptor.ID = 2
+	if Valid(twin) {
+		t.Error("descending IDs")
+	}
+	if x, err := Close(first, 1); err != api.OK || len(x.Voices) != 0 {
+		t.Error(err)
+	}
 	for i, e := range invalid() {
 		if Valid(e) {
 			t.Error(i)
@@ -176,11 +190,15 @@ func TestHost(t *testing.T) {
 		err api.Errno
 	}{
 		{base, api.Device{}, limit(), api.ErrInvalid}, {base, running, limit(), api.ErrInvalid}, {base, none, limit(), api.ErrInvalid}, {base, other, limit(), api.ErrInvalid}, {base, opened(9, api.Playback, steady(1, 1), mono), api.Limit{}, api.ErrInvalid},
-		{full, opened(9, api.Capture, steady(1, 1), mono), limit(), api.ErrExists}, {full, d, limit(), api.ErrLimit},
+		{full, opened(9, api.Capture, steady(1, 1), mono), limit(), api.ErrExists}, {full, opened(5, api.Playback, steady(1, 1), mono), limit(), api.ErrExists}, {full, d, limit(), api.ErrLimit},
 	} {
 		if x, err := Host(c.e, c.d, c.l); err != c.err || !isZero(x) {
 			t.Error(i, err)
 		}
+	}
+	slow := must(New(44100, period))
+	if _, err := Host(slow, d, limit()); err != api.ErrInvalid {
+		t.Error("another rate", err)
 	}
 	wide := must(New(48000, 128))
 	if _, err := Host(wide, d, limit()); err != api.ErrInvalid {
@@ -419,8 +437,9 @@ func TestGlitches(t *testing.T) {
 	if !slices.Equal(r.Glitches, want) {
 		t.Error(r.Glitches, want)
 	}
+	heard := map[int]int{2: want[0].Frames, 3: want[1].Frames, 7: want[2].Frames, 8: want[3].Frames, 4: 22}
 	for _, h := range r.Heard {
-		if h.Missing == 0 {
+		if h.Missing != heard[h.Stream] || h.Missing == 0 {
 			t.Error(h)
 		}
 	}

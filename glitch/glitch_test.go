@@ -34,7 +34,7 @@ func invalid() []api.Glitch {
 
 // P37.1
 func TestValid(t *testing.T) {
-	for i, g := range []api.Glitch{short(0, 1, 1), short(api.MaxTime, api.MaxQuanta, api.MaxTime), dry(7, 2, 3), {Kind: api.GlitchFull, Stream: maxInt, Quanta: 1, Frames: 1}, {Kind: api.GlitchOver, Device: 1<<64 - 1, Quanta: 1, Frames: 1}} {
+	for i, g := range []api.Glitch{short(0, 1, 1), short(api.MaxTime, api.MaxQuanta, api.MaxTime), dry(7, 2, 3), {Kind: api.GlitchShort, Stream: 1, Quanta: 1, Frames: 1}, {Kind: api.GlitchDry, Device: 1, Quanta: 1, Frames: 1}, {Kind: api.GlitchFull, Stream: maxInt, Quanta: 1, Frames: 1}, {Kind: api.GlitchOver, Device: 1<<64 - 1, Quanta: 1, Frames: 1}} {
 		if !Valid(g) {
 			t.Error(i)
 		}

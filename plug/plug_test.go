@@ -92,7 +92,7 @@ func TestBegin(t *testing.T) {
 		fade        int
 		phase, left int
 	}{
-		{1, 2, 5, api.MoveOut, 5}, {0, 2, 5, api.MoveIn, 5}, {1, 0, 5, api.MoveOut, 5}, {0, 0, 5, api.MoveDone, 0}, {1, 2, 0, api.MoveDone, 0}, {1, 2, -1, api.MoveDone, 0}, {1, 2, api.MaxQuanta, api.MoveOut, api.MaxQuanta}, {0, 2, api.MaxQuanta + 1, api.MoveDone, 0},
+		{1, 2, 5, api.MoveOut, 5}, {0, 2, 5, api.MoveIn, 5}, {1, 0, 5, api.MoveOut, 5}, {0, 0, 5, api.MoveDone, 0}, {1, 2, 1, api.MoveOut, 1}, {0, 2, 1, api.MoveIn, 1}, {1, 2, 0, api.MoveDone, 0}, {1, 2, -1, api.MoveDone, 0}, {1, 2, api.MaxQuanta, api.MoveOut, api.MaxQuanta}, {0, 2, api.MaxQuanta + 1, api.MoveDone, 0},
 	} {
 		if m := Begin(7, c.from, c.to, c.fade); m != (api.Move{Stream: 7, From: c.from, To: c.to, Phase: c.phase, Left: c.left}) {
 			t.Error(i, m)
@@ -119,7 +119,7 @@ func TestAdvanceAndWanted(t *testing.T) {
 		fade int
 		want api.Move
 	}{
-		{api.Move{From: 1, Phase: api.MoveOut, Left: 1}, 3, api.Move{From: 1, Phase: api.MoveDone}}, {api.Move{To: 2, Phase: api.MoveOut, Left: 1}, 3, api.Move{To: 2, Phase: api.MoveIn, Left: 3}}, {api.Move{To: 2, Phase: api.MoveOut, Left: 9}, 3, api.Move{To: 2, Phase: api.MoveOut, Left: 8}},
+		{api.Move{From: 1, Phase: api.MoveOut, Left: 1}, 3, api.Move{From: 1, Phase: api.MoveDone}}, {api.Move{To: 2, Phase: api.MoveOut, Left: 1}, 3, api.Move{To: 2, Phase: api.MoveIn, Left: 3}}, {api.Move{To: 2, Phase: api.MoveOut, Left: 1}, 1, api.Move{To: 2, Phase: api.MoveIn, Left: 1}}, {api.Move{To: 2, Phase: api.MoveOut, Left: 9}, 3, api.Move{To: 2, Phase: api.MoveOut, Left: 8}},
 		{api.Move{To: 2, Phase: api.MoveIn, Left: 0}, 3, api.Move{To: 2, Phase: api.MoveDone}}, {api.Move{To: 2, Phase: api.MoveOut, Left: -1 << 63}, 3, api.Move{To: 2, Phase: api.MoveDone}}, {api.Move{To: 2, Phase: 0, Left: 5}, 3, api.Move{To: 2, Phase: api.MoveDone}}, {api.Move{To: 2, Phase: 9, Left: 5}, 3, api.Move{To: 2, Phase: api.MoveDone}},
 		{api.Move{To: 2, Phase: api.MoveIn, Left: 5}, 0, api.Move{To: 2, Phase: api.MoveDone}}, {api.Move{To: 2, Phase: api.MoveIn, Left: 5}, api.MaxQuanta + 1, api.Move{To: 2, Phase: api.MoveDone}},
 	} {

@@ -102,6 +102,13 @@ func TestMeasure(t *testing.T) {
 			t.Error(latency, r, e)
 		}
 	}
+	full := begun(5)
+	full.Last = []api.Glitch{short(1, 5, 1, 1)}
+	x, _ := Measure(full, 9)
+	x.Last[0].Frames = 99
+	if full.Last[0].Frames != 1 {
+		t.Error("shared memory")
+	}
 	edge := begun(5)
 	edge.Buckets[0] = api.MaxTime
 	if r, e := Measure(edge, 0); e != api.OK || r.Buckets[0] != api.MaxTime {
@@ -141,6 +148,9 @@ func TestMost(t *testing.T) {
 	r := begun(1)
 	if Most(r, 50) != 0 {
 		t.Error("nothing was measured")
+	}
+	if one, _ := Measure(r, 5); Most(one, 100) != 7 || Most(one, 1) != 7 || Most(one, 0) != 0 {
+		t.Error("one latency")
 	}
 	for _, latency := range []int{100, 200, 1000} {
 		r, _ = Measure(r, latency)

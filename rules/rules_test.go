@@ -2,6 +2,7 @@ package rules
 
 import (
 	"reflect"
+	"slices"
 	"strings"
 	"testing"
 
@@ -27,7 +28,7 @@ func repeat(t api.Term, n int) []api.Term {
 
 var improper = [][]api.Term{
 	{not}, {and}, {active("a"), and}, {active("a"), active("b")}, {active("a"), or, active("b")}, {active("")}, {active("1")}, {present("a b")}, {{Kind: 0, Name: "a"}}, {{Kind: 6}}, {{Kind: -1}},
-	{active("a"), {Kind: api.TermNot, Name: "x"}}, {active("a"), active("b"), {Kind: api.TermAnd, Name: "x"}}, append([]api.Term{active("a")}, repeat(not, 16)...), {active("a"), active("b"), and, and},
+	{active("a"), {Kind: 0}}, {active("a"), {Kind: 6}}, {active("a"), active("b"), {Kind: -1}}, {active("a"), {Kind: api.TermNot, Name: "x"}}, {active("a"), active("b"), {Kind: api.TermAnd, Name: "x"}}, append([]api.Term{active("a")}, repeat(not, 16)...), {active("a"), active("b"), and, and},
 }
 
 // P29.1
@@ -141,6 +142,9 @@ func TestFormat(t *testing.T) {
 	}
 	if s, e := Format(nil); e != api.OK || s != "" {
 		t.Error(s, e)
+	}
+	if s, e := Format(slices.Repeat([]api.Rule{mute()}, api.MaxRules)); e != api.OK || s != strings.Repeat("mute r\n", api.MaxRules) {
+		t.Error(len(s), e)
 	}
 	if s, e := Format(make([]api.Rule, api.MaxRules+1)); e != api.ErrLimit || s != "" {
 		t.Error(s, e)

@@ -73,7 +73,7 @@ func TestProperAndBytes(t *testing.T) {
 			t.Error(i, x, e)
 		}
 		for n := range b {
-			if x, e := Decode(b[:n]); e != api.ErrSyntax || !same(x, api.Record{}) {
+			if x, e := Decode(b[:n:n]); e != api.ErrSyntax || !same(x, api.Record{}) {
 				t.Error(i, n, x, e)
 			}
 		}
