@@ -83,6 +83,23 @@ func TestMixed(t *testing.T) {
 	}
 }
 
+// P44.1: the first quantum of a stream, and the first one of all.
+func TestMixedFirst(t *testing.T) {
+	h, _ := world.Run(setup(), script()[:12], 20)
+	for at := 1; at < 20; at++ {
+		for _, id := range []uint64{5, 7} {
+			if b, ok := Mixed(h, at, id, period, 48000); !ok || !reflect.DeepEqual(b, h.Moments[at].Result.Played[(id-5)].Mixed) {
+				t.Error(at, id)
+			}
+		}
+	}
+	p := api.Played{Device: 5, Direction: api.Playback, Map: []int{3}, Limit: api.Limit{Threshold: 1, Release: 1, Gain: 1}}
+	one := api.History{Moments: []api.Moment{{Result: api.Result{Played: []api.Played{p}}}}}
+	if b, ok := Mixed(one, 0, 5, 3, 48000); !ok || !reflect.DeepEqual(b, api.Block{Channels: 1, Data: make([]int32, 3)}) {
+		t.Error(b, ok)
+	}
+}
+
 // P44.1: what is not known.
 func TestNotMixed(t *testing.T) {
 	h := history(t)
@@ -157,6 +174,12 @@ func TestFound(t *testing.T) {
 		{func(h *api.History, r *api.Result) {
 			r.Played[0].Map, r.Played[2].Map, r.Heard[0].Missing, r.Heard[0].Latency = nil, nil, 1, 1<<60
 		}, api.Verdict{At: at, Rule: api.AuditMissed}},
+		{func(h *api.History, r *api.Result) {
+			r.Played[0].Map, r.Played[2].Map, r.Heard[0].Missing, h.Written[0].Since = nil, nil, 1, at
+		}, api.Verdict{At: at, Rule: api.AuditMissed}},
+		{func(h *api.History, r *api.Result) {
+			r.Played[0].Map, r.Played[2].Map, r.Heard[0].Missing, h.Written[0].Since = nil, nil, 1, at+1
+		}, api.Verdict{}},
 		{func(h *api.History, r *api.Result) { // dropped facts are not known
 			r.Played[0].Map, r.Played[2].Map, r.Heard[0].Missing, r.Heard[0].Latency = nil, nil, 1, 1<<60
 			h.Service.Facts = slices.Repeat([]api.Fact{{}}, api.MaxFacts)

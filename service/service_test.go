@@ -502,7 +502,7 @@ func TestMoves(t *testing.T) {
 	if !slices.Equal(phases, []int{12, 11, 23, 22, 21, 0, 0, 0, 0}) || !slices.Equal(gains, []int{35536, 5536, 0, 0, 0, 20000, 40000, 60000, 65536}) || !slices.Equal(devices, []int{5, 5, 5, 7, 7, 7, 7, 7, 7}) {
 		t.Error(phases, gains, devices)
 	}
-	if s.Facts[len(s.Facts)-1] != (api.Fact{Kind: api.FactMove, At: 15, Stream: 3, Device: 7}) || s.Book.Seats[0].Device != 7 {
+	if s.Facts[len(s.Facts)-1] != (api.Fact{Kind: api.FactMove, At: 15, Stream: 3, Device: 7}) || s.Book.Seats[0].Device != 7 || len(s.Moves) != 0 {
 		t.Error(s.Facts)
 	}
 	muted := fed(t, run(t, s, ask(api.ReqMute, 3, 1)), 4, func(int, api.Service, api.Result) {})
@@ -551,10 +551,10 @@ func TestFacts(t *testing.T) {
 			if f.At != r.At {
 				t.Error(f)
 			}
-			switch f.Kind {
-			case api.FactLate:
+			switch f {
+			case api.Fact{Kind: api.FactLate, At: r.At, Stream: 3}:
 				late++
-			case api.FactUnread:
+			case api.Fact{Kind: api.FactUnread, At: r.At, Stream: 4}:
 				unread++
 			default:
 				t.Error(f)
@@ -678,5 +678,165 @@ func TestJournalIsRewritten(t *testing.T) {
 	}
 	if most < api.MaxJournal-2000 || !bytes.Equal(s.Journal, want) {
 		t.Error(most, len(s.Journal))
+	}
+}
+
+// P42.1: the least setup, and a device and a stream with the ID 1.
+func TestLeast(t *testing.T) {
+	least := api.Setup{Rate: 8000, Period: 16, Workers: 1, Fade: 1, Slope: api.Slope{Attack: 1, Release: 1}, Threshold: 1, Release: 1}
+	most := api.Setup{Rate: 192000, Period: 8192, Workers: 8, Capacity: api.MaxCost, Settle: api.MaxQuanta, Fade: api.MaxQuanta, Slope: api.Slope{Attack: api.MaxGain, Release: api.MaxGain, Hold: api.MaxQuanta}, Threshold: api.MaxSample, Release: api.Unit}
+	if !Valid(least) || !Valid(most) {
+		t.Error("the edges of setups")
+	}
+	s := run(t, begun(t), plugging(describes(2, "b", 1), clockOf(1, 1)), quantum, quantum, opening(1, "music", api.Playback, 1, 5000), asking(api.Request{Kind: api.ReqWrite, ID: 1, Data: make([]byte, 2*200)}), ask(api.ReqStart, 1, 0), plugging(describes(1, "a", 1), clockOf(1, 1)), quantum, quantum, asking(api.Request{Kind: api.ReqMove, ID: 1, Device: 1}))
+	for range 6 {
+		s = run(t, s, quantum)
+	}
+	if s.Engine.Voices[0].Device != 1 || Measured(s, 1) == 0 || len(s.Moves) != 0 {
+		t.Error(s.Engine.Voices[0].Device, s.Moves)
+	}
+}
+
+// P42.3: all rests of the capacity.
+func TestMeasuredTarget(t *testing.T) {
+	s := run(t, hosting(t), opening(3, "music", api.Playback, 2, 5000))
+	for capacity := 300; capacity < 440; capacity++ {
+		s.Engine.Outlets[0].Device.Bridge.Capacity = capacity
+		d := s.Engine.Outlets[0].Device
+		if want := 0 + 2 + period + period + 10 + bridge.Fill(d.Bridge); Measured(s, 3) != want { // one quantum more, and the way to the air
+			t.Fatal(capacity, Measured(s, 3), want)
+		}
+	}
+}
+
+// P42.4: other numbers of channels than 2.
+func TestChannels(t *testing.T) {
+	s := run(t, hosting(t), opening(3, "music", api.Playback, 3, 5000), opening(4, "voice", api.Capture, 1, 5000), ask(api.ReqStart, 4, 0), asking(api.Request{Kind: api.ReqWrite, ID: 3, Data: make([]byte, 6*20+5)}))
+	if n := stream.Waiting(s.Engine.Voices[0].Stream); n != 20 {
+		t.Error(n)
+	}
+	mono := run(t, s, opening(5, "music", api.Playback, 1, 5000), asking(api.Request{Kind: api.ReqWrite, ID: 5, Data: make([]byte, 2*20+1)}))
+	if n := stream.Waiting(mono.Engine.Voices[2].Stream); n != 20 {
+		t.Error(n)
+	}
+	s.Engine.Voices[1].Stream.Ring.Data, s.Engine.Voices[1].Stream.Ring.Written = make([]int32, 272), 272
+	if _, a, _ := step(t, s, ask(api.ReqRead, 4, 1000)); len(a.Data) != 2*272 {
+		t.Error(len(a.Data))
+	}
+	big := setup()
+	big.Period = 1024
+	x, _ := New(big)
+	d := describes(6, "mic", 2)
+	x = run(t, x, plugging(d, clockOf(1, 1)), quantum, quantum, opening(4, "voice", api.Capture, 3, 50000))
+	x.Engine.Voices[0].Stream.Ring.Data, x.Engine.Voices[0].Stream.Ring.Written = make([]int32, 3*2000), 2000
+	if _, a, _ := step(t, x, ask(api.ReqRead, 4, 1000)); len(a.Data) != 6*170 {
+		t.Error(len(a.Data))
+	}
+}
+
+// P42.4: a list of exactly so many bytes.
+func TestListLimit(t *testing.T) {
+	for extra, lines := range []int{21, 20} {
+		s := hosting(t)
+		for id := 100; id < 121; id++ {
+			role := strings.Repeat("r", 64)
+			if id == 120 {
+				role = strings.Repeat("r", 31+extra)
+			}
+			s = run(t, s, opening(id, role, api.Playback, 1, 5000))
+		}
+		_, a, _ := step(t, s, asking(api.Request{Kind: api.ReqList}))
+		if n := strings.Count(a.Text, "\n"); n != lines || len(a.Text) != 1460+40*(1-extra) {
+			t.Error(extra, n, len(a.Text))
+		}
+	}
+}
+
+// P42.5, P42.6: what happens to one stream does not change the moves of others.
+func TestOtherMoves(t *testing.T) {
+	s := run(t, hosting(t), plugging(describes(8, "tv", 1), clockOf(1, 1)), quantum, quantum, opening(2, "voice", api.Playback, 1, 5000), opening(3, "music", api.Playback, 2, 5000), opening(4, "game", api.Playback, 2, 5000), asking(api.Request{Kind: api.ReqMove, ID: 2, Device: 7}), asking(api.Request{Kind: api.ReqMove, ID: 3, Device: 8}), quantum)
+	streams := func(s api.Service) []int {
+		var l []int
+		for _, m := range s.Moves {
+			l = append(l, m.Stream)
+		}
+		return l
+	}
+	if !slices.Equal(streams(s), []int{2, 3}) {
+		t.Fatal(s.Moves)
+	}
+	x := run(t, s, api.Event{Kind: api.EvUnplug, Device: 8})
+	if !slices.Equal(streams(x), []int{2}) || x.Engine.Voices[0].Device != 5 || x.Engine.Voices[1].Device != 0 || x.Engine.Voices[2].Device != 5 || len(x.Book.Seats) != 2 {
+		t.Error(x.Moves, x.Book.Seats)
+	}
+	if y := run(t, s, ask(api.ReqClose, 3, 0)); !slices.Equal(streams(y), []int{2}) || len(y.Book.Seats) != 2 {
+		t.Error(y.Moves)
+	}
+	if y := run(t, s, api.Event{Kind: api.EvDie, ID: 2}); !slices.Equal(streams(y), []int{3}) || len(y.Book.Seats) != 2 {
+		t.Error(y.Moves)
+	}
+	for range 8 {
+		s = run(t, s, quantum)
+	}
+	if len(s.Moves) != 0 || s.Engine.Voices[0].Device != 7 || s.Engine.Voices[1].Device != 8 {
+		t.Error(s.Moves)
+	}
+}
+
+// P42.7: streams that do not run, or have no device, owe nothing and are not measured.
+func TestIdleStreams(t *testing.T) {
+	s := run(t, playing(t), opening(4, "voice", api.Playback, 1, 5000), opening(5, "game", api.Playback, 2, 5000))
+	x, _, r := step(t, s, quantum)
+	for i, want := range []int{5000, 0, 0} {
+		if h := r.Heard[i]; h.Granted != want || h.Latency != Measured(x, h.Stream)*want/5000 {
+			t.Error(h)
+		}
+	}
+	if len(x.Facts) != len(s.Facts) {
+		t.Error(x.Facts)
+	}
+	alone := run(t, x, api.Event{Kind: api.EvUnplug, Device: 5}, api.Event{Kind: api.EvUnplug, Device: 7})
+	before := alone.Recorder.Buckets
+	facts := len(alone.Facts)
+	for range 4 {
+		y, _, r := step(t, alone, quantum)
+		if h := r.Heard[0]; h.State != api.Running || h.Device != 0 || h.Latency != 0 || h.Granted != 0 || y.Recorder.Buckets != before {
+			t.Error(h)
+		}
+		alone = y
+	}
+	if n := len(alone.Facts); n <= facts || alone.Facts[n-1] != (api.Fact{Kind: api.FactLate, At: alone.Engine.Now - 1, Stream: 3}) {
+		t.Error(alone.Facts)
+	}
+}
+
+// Facts are kept up to their greatest number.
+func TestMaxFacts(t *testing.T) {
+	s := playing(t)
+	for _, n := range []int{api.MaxFacts - 1, api.MaxFacts} {
+		s.Facts = slices.Repeat([]api.Fact{{Kind: api.FactMove}}, n)
+		if x := run(t, s, api.Event{Kind: api.EvDie, ID: 3}); len(x.Facts) != api.MaxFacts {
+			t.Error(n, len(x.Facts))
+		}
+	}
+}
+
+// P42.8: a stream that cannot be opened does not keep the others from it.
+func TestRestartGoesOn(t *testing.T) {
+	var b []byte
+	for _, r := range []api.Record{{Kind: api.RecOpen, ID: 2, Role: "a", Direction: 1, Channels: 1, Rate: 768000}, {Kind: api.RecOpen, ID: 9, Role: "a", Direction: 1, Channels: 1, Rate: 48000}} {
+		record, _ := session.Encode(r)
+		b, _ = journal.Append(b, record)
+	}
+	wide := setup()
+	wide.Period = 8192
+	s, _ := New(wide)
+	s.Journal = b
+	s, a, _ := Step(s, api.Event{Kind: api.EvRestart})
+	check(t, s)
+	closing, _ := session.Encode(api.Record{Kind: api.RecClose, ID: 2})
+	b, _ = journal.Append(b, closing)
+	if a.Code != api.OK || len(s.Session.Streams) != 1 || s.Session.Streams[0].ID != 9 || !bytes.Equal(s.Journal, b) || !slices.Equal(s.Facts, []api.Fact{{Kind: api.FactRestart}}) {
+		t.Error(s.Session, s.Facts)
 	}
 }

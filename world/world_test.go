@@ -275,3 +275,26 @@ func TestRecorded(t *testing.T) {
 		t.Error("quanta that are refused", wild.Service.Engine.Now, len(wild.Service.Engine.Outlets))
 	}
 }
+
+// P43.2: the least that can be fed, and reading less than there is.
+func TestFeedLittle(t *testing.T) {
+	l := []api.Act{plugging(0, 5, api.Playback, 1, 1), plugging(0, 6, api.Capture, 1, 1), opening(2, 3, api.Playback, 2), opening(2, 4, api.Capture, 2), asking(2, api.ReqStart, 4), feeding(2, 3, 1), feeding(2, 4, 10)}
+	h, _ := Run(setup(), l, 8)
+	if data := h.Written[0].Block.Data; !slices.Equal(data, Sound(3, 0, 2, 6).Data) {
+		t.Error(len(data))
+	}
+	v := h.Service.Engine.Voices[1].Stream
+	if v.Written < 40 || v.Written > 50 || stream.Waiting(v) < 200 {
+		t.Error(v.Written, stream.Waiting(v))
+	}
+	l[6] = feeding(2, 4, 1)
+	h, _ = Run(setup(), l, 8)
+	if v := h.Service.Engine.Voices[1].Stream; v.Written < 4 || v.Written > 5 {
+		t.Error(v.Written)
+	}
+	l[6] = feeding(2, 4, maxInt)
+	h, _ = Run(setup(), l, 8)
+	if v := h.Service.Engine.Voices[1].Stream; v.Written < 200 {
+		t.Error(v.Written)
+	}
+}
