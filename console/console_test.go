@@ -2,6 +2,7 @@ package console
 
 import (
 	"reflect"
+	"slices"
 	"strconv"
 	"strings"
 	"testing"
@@ -154,6 +155,19 @@ func TestFormatErrors(t *testing.T) {
 			t.Error(i, s, e)
 		}
 	}
+	for i, r := range []api.Request{{Kind: 1}, {ID: 1}, {Role: "a"}, {Direction: 1}, {Channels: 1}, {Rate: 1}, {Latency: 1}, {N: 1}, {Device: 1}, {Data: []byte{0}}, {Text: "a"}} {
+		if s, e := Format([]api.Act{{Kind: api.ActBoot, Request: r}}); e != api.ErrInvalid || s != "" {
+			t.Error(i, s, e)
+		}
+	}
+	for i, d := range []api.Descriptor{{ID: 1}, {Name: "a"}, {Direction: 1}, {Domain: 1}, {Latency: 1}, {Drift: 1}, {Jitter: 1}, {Boxes: make([]api.Box, 1)}} {
+		if s, e := Format([]api.Act{{Kind: api.ActDie, ID: 3, Descriptor: d}}); e != api.ErrInvalid || s != "" {
+			t.Error(i, s, e)
+		}
+	}
+	if s, e := Format(slices.Repeat([]api.Act{{Kind: api.ActBoot}}, api.MaxActs)); e != api.OK || s != strings.Repeat("0 boot\n", api.MaxActs) {
+		t.Error(len(s), e)
+	}
 	if s, e := Format([]api.Act{{At: 3, Kind: api.ActBoot}, {At: 2, Kind: api.ActBoot}}); e != api.ErrInvalid || s != "" {
 		t.Error(s, e)
 	}
@@ -170,6 +184,13 @@ func TestFormatErrors(t *testing.T) {
 	}
 	if s, e := Format(l[:43]); e != api.OK || len(s) > api.MaxText {
 		t.Error(len(s), e)
+	}
+	rest := api.MaxText - 43*(1500+len("0 send rules \n")) - len("0 send rules \n")
+	for extra, want := range []api.Errno{api.OK, api.ErrLimit} {
+		last := api.Act{Kind: api.ActSend, Request: api.Request{Kind: api.ReqRules, Text: strings.Repeat("t", rest+extra)}}
+		if s, e := Format(append(l[:43:43], last)); e != want || e == api.OK && len(s) != api.MaxText {
+			t.Error(len(s), e)
+		}
 	}
 	if s, e := Format(append(l, api.Act{})); e != api.ErrInvalid || s != "" {
 		t.Error(len(s), e)
