@@ -197,6 +197,11 @@ func TestViews(t *testing.T) {
 	if Measured(s, 3) != 0 {
 		t.Error("a stream without a device")
 	}
+	s = run(t, hosting(t), opening(3, "music", api.Playback, 2, 5000))
+	s.Session.Streams = nil
+	if Needed(s, 3, 5) != 0 || Measured(s, 3) != 0 {
+		t.Error("a voice of no open stream")
+	}
 }
 
 // P42.4
