@@ -153,6 +153,9 @@ func TestHostAndDrop(t *testing.T) {
 	}
 	empty := changed(func(b *api.Book) { b.Seats = b.Seats[1:] })
 	x, e = Drop(empty, 9)
+	if len(empty.Devices) != 2 || empty.Devices[1] != b.Devices[1] {
+		t.Error("the argument was changed")
+	}
 	if e != api.OK || !reflect.DeepEqual(x.Devices, b.Devices[:1]) || !reflect.DeepEqual(x.Seats, b.Seats[1:]) {
 		t.Error(x, e)
 	}
