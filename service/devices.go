@@ -96,8 +96,7 @@ func (w *state) drop(id uint64) api.Errno {
 	if try(&w.Book, book, e) != api.OK {
 		return e
 	}
-	after, e := engine.Drop(w.Engine, id)
-	if try(&w.Engine, after, e) != api.OK {
+	if e := w.runs(engine.Drop(w.Engine, id)); e != api.OK {
 		return e
 	}
 	w.Watches = slices.DeleteFunc(w.Watches, func(x api.Watch) bool { return x.Device == id })
@@ -132,8 +131,7 @@ func (w *state) host(id uint64) api.Errno {
 	if e != api.OK {
 		return e
 	}
-	after, e := engine.Host(w.Engine, d, l)
-	if try(&w.Engine, after, e) != api.OK {
+	if e := w.runs(engine.Host(w.Engine, d, l)); e != api.OK {
 		return e
 	}
 	w.Book = book
@@ -148,7 +146,7 @@ func (w *state) restart() api.Errno {
 		return e
 	}
 	begun.Engine.Now, begun.Recorder, begun.Facts, begun.Known = before.Engine.Now, before.Recorder, before.Facts, before.Known
-	w.Service = begun
+	w.Service, w.own = begun, true
 	for _, k := range w.Known {
 		if e := w.sight(k.Descriptor.ID); e != api.OK {
 			return e

@@ -82,8 +82,7 @@ func (w *state) shape(id, wanted int) api.Errno {
 		return e
 	}
 	w.Faders[at].Envelope = after
-	shaped, e := engine.Shape(w.Engine, id, ramp)
-	return try(&w.Engine, shaped, e)
+	return w.runs(engine.Shape(w.Engine, id, ramp))
 }
 
 // late notes which clients have not given what they owe.
@@ -180,7 +179,7 @@ func (w *state) quantum(recorded []api.Captured) api.Errno {
 		return e
 	}
 	r, after, e := engine.Quantum(w.Engine, recorded)
-	if try(&w.Engine, after, e) != api.OK {
+	if w.runs(after, e) != api.OK {
 		return e
 	}
 	w.result = r

@@ -106,8 +106,7 @@ func (w *state) fade(id int) {
 // voice opens the voice of a stream.
 func (w *state) voice(id, direction, channels, rate int) api.Errno {
 	capacity, start := Sizes(w.Setup, direction, rate)
-	e, err := engine.Open(w.Engine, id, direction, Positions(channels), rate, capacity, start)
-	return try(&w.Engine, e, err)
+	return w.runs(engine.Open(w.Engine, id, direction, Positions(channels), rate, capacity, start))
 }
 
 func (w *state) open(r api.Request) api.Errno {
@@ -140,8 +139,7 @@ func (w *state) open(r api.Request) api.Errno {
 }
 
 func (w *state) route(id int, device uint64) api.Errno {
-	e, err := engine.Route(w.Engine, id, device)
-	return try(&w.Engine, e, err)
+	return w.runs(engine.Route(w.Engine, id, device))
 }
 
 // unseat takes the seat of a stream away, if it has one.
@@ -164,17 +162,15 @@ func (w *state) forget(id int) api.Errno {
 }
 
 func (w *state) leave(r api.Request) api.Errno {
-	e, err := engine.Close(w.Engine, r.ID)
-	if try(&w.Engine, e, err) != api.OK {
-		return err
+	if e := w.runs(engine.Close(w.Engine, r.ID)); e != api.OK {
+		return e
 	}
 	return w.forget(r.ID)
 }
 
 // do carries out a command for a stream.
 func (w *state) do(id, command int) api.Errno {
-	e, err := engine.Do(w.Engine, id, command)
-	return try(&w.Engine, e, err)
+	return w.runs(engine.Do(w.Engine, id, command))
 }
 
 func (w *state) start(r api.Request) api.Errno {
@@ -202,18 +198,17 @@ func (w *state) channels(id int) int { return w.Session.Streams[kept(w.Service, 
 func (w *state) write(r api.Request) api.Errno {
 	channels := w.channels(r.ID)
 	size := sampleBytes * channels
-	data, err := sample.Decode(api.S16LE, r.Data[:client.Whole(len(r.Data), size)*size])
-	if err != api.OK {
-		return err
+	data, e := sample.Decode(api.S16LE, r.Data[:client.Whole(len(r.Data), size)*size])
+	if e != api.OK {
+		return e
 	}
-	e, err := engine.Write(w.Engine, r.ID, api.Block{Channels: channels, Data: data})
-	return try(&w.Engine, e, err)
+	return w.runs(engine.Write(w.Engine, r.ID, api.Block{Channels: channels, Data: data}))
 }
 
 func (w *state) read(r api.Request) api.Errno {
 	n := min(r.N, client.Whole(api.MaxData, sampleBytes*w.channels(r.ID)))
 	b, e, err := engine.Read(w.Engine, r.ID, n)
-	if try(&w.Engine, e, err) != api.OK {
+	if w.runs(e, err) != api.OK {
 		return err
 	}
 	data, err := sample.Encode(api.S16LE, b.Data)
